@@ -50,3 +50,19 @@ func (a argument) untouched(t *testing.T, call string, answers ...string) {
 		}
 	}
 }
+
+// overlap tells whether two lists share memory, spare room and all.
+func overlap[T any](a, b []T) bool {
+	if cap(a) == 0 || cap(b) == 0 {
+		return false
+	}
+	size := unsafe.Sizeof(a[:1][0])
+	fromA := uintptr(unsafe.Pointer(unsafe.SliceData(a)))
+	fromB := uintptr(unsafe.Pointer(unsafe.SliceData(b)))
+	return fromA < fromB+uintptr(cap(b))*size && fromB < fromA+uintptr(cap(a))*size
+}
+
+// bytesOf is the very memory of a text, to be looked at alone.
+func bytesOf(s string) []byte {
+	return unsafe.Slice(unsafe.StringData(s), len(s))
+}
