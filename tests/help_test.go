@@ -66,3 +66,11 @@ func overlap[T any](a, b []T) bool {
 func bytesOf(s string) []byte {
 	return unsafe.Slice(unsafe.StringData(s), len(s))
 }
+
+// memoryOf is the room of a list, spare room and all, so that lists of different kinds can be held against each other.
+func memoryOf[T any](list []T) []byte {
+	if cap(list) == 0 {
+		return nil
+	}
+	return unsafe.Slice((*byte)(unsafe.Pointer(unsafe.SliceData(list))), cap(list)*int(unsafe.Sizeof(list[:1][0])))
+}

@@ -896,8 +896,8 @@ func TestNumberLeavesArgumentsAlone(t *testing.T) {
 						text.untouched(t, "Number", m.Text)
 					}
 				}
-				if overlap(items, others) {
-					t.Errorf("Number(%+v, %d, %.60q): two answers share memory", k, from, texts)
+				if overlap(items, others) || overlap(memoryOf(next.Wants), memoryOf(items)) {
+					t.Errorf("Number(%+v, %d, %.60q): two lists share memory", k, from, texts)
 				}
 			}
 		}
