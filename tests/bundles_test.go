@@ -77,9 +77,13 @@ func allHereByHand(r impl.Ring, list []impl.Bundle) bool {
 
 func togetherByHand(r impl.Ring, list []impl.Bundle, id int) []int {
 	firsts := firstsByHand(r, list)
+	own, there := firsts[id]
+	if !there {
+		return nil
+	}
 	var with []int
 	for d, b := range firsts {
-		if b.Old > 0 && b.Old == firsts[id].Old && slices.Contains(r.Members, d) {
+		if (d == id || b.Old > 0 && b.Old == own.Old) && slices.Contains(r.Members, d) {
 			with = append(with, d)
 		}
 	}
@@ -89,6 +93,9 @@ func togetherByHand(r impl.Ring, list []impl.Bundle, id int) []int {
 
 func restByHand(r impl.Ring, list []impl.Bundle, id, heard int) []impl.Item {
 	firsts := firstsByHand(r, list)
+	if firsts[id].Old == 0 {
+		return nil
+	}
 	var lists [][]impl.Item
 	for _, d := range togetherByHand(r, list, id) {
 		lists = append(lists, firsts[d].Items)
@@ -188,8 +195,8 @@ func wantPromiseOfParts(t *testing.T, r impl.Ring, list []impl.Bundle) int {
 	most := 0
 	for _, id := range r.Members {
 		with := impl.TogetherWith(r, list, id)
-		if len(with) > 0 && !slices.Contains(with, id) {
-			t.Errorf("TogetherWith(%s, %s, %d): %v; it is not one of them", shownRing(r), shownBundles(list), id, with)
+		if _, there := firstsByHand(r, list)[id]; slices.Contains(with, id) != there {
+			t.Errorf("TogetherWith(%s, %s, %d): %v; that it has a bundle is %t", shownRing(r), shownBundles(list), id, with, there)
 		}
 		most = max(most, len(with))
 		whole := impl.Rest(r, list, id, 0)
@@ -731,17 +738,78 @@ func TestTogetherWithKnown(t *testing.T) {
 	wantTogether(t, impl.Ring{Id: 5, Members: r.Members}, list, 1)
 }
 
-// Who fell comes from no ring: two of them go on with nobody, and not with each other.
+// Who fell comes from no ring: it goes on with itself alone, whoever else is there.
 func TestTogetherWithOfWhoFell(t *testing.T) {
-	r := ringOf(1, 2, 3)
-	wantTogether(t, r, []impl.Bundle{bundleOf(1, 0), bundleOf(2, 0), bundleOf(3, 0)}, 1)
-	list := []impl.Bundle{bundleOf(1, 0), bundleOf(2, 3, 1), bundleOf(3, 0)}
-	wantTogether(t, r, list, 1)
-	wantTogether(t, r, list, 3)
-	wantTogether(t, r, list, 2, 2)
-	for id := range 5 {
-		wantRest(t, r, list, id, 0, itemsOf(1)[:max(0, 1-(id-2)*(id-2))]...)
+	for id := 1; id <= 5; id++ {
+		for conf := 1; conf <= 9; conf++ {
+			alone := impl.Ring{Id: conf, Members: []int{id}}
+			wantTogether(t, alone, []impl.Bundle{{From: id, New: conf}}, id, id)
+		}
 	}
+	r := ringOf(1, 2, 3)
+	beside := []impl.Bundle{bundleOf(1, 0), bundleOf(2, 1), bundleOf(3, 1)}
+	wantTogether(t, r, beside, 1, 1)
+	wantTogether(t, r, beside, 2, 2, 3)
+	wantTogether(t, r, beside, 3, 2, 3)
+	both := []impl.Bundle{bundleOf(1, 0), bundleOf(2, 3, 1), bundleOf(3, 0)}
+	for id := 1; id <= 3; id++ {
+		wantTogether(t, r, both, id, id)
+		wantTogether(t, r, []impl.Bundle{bundleOf(1, 0), bundleOf(2, 0), bundleOf(3, 0)}, id, id)
+	}
+}
+
+// Of two bundles of its own the first one counts, whichever of them tells of no ring.
+func TestTogetherWithOfWhoFellAndTellsTwice(t *testing.T) {
+	r := ringOf(1, 2)
+	fallen := []impl.Bundle{bundleOf(1, 0), bundleOf(1, 2, 1), bundleOf(2, 2, 1)}
+	wantTogether(t, r, fallen, 1, 1)
+	wantTogether(t, r, fallen, 2, 2)
+	wantRest(t, r, fallen, 1, 0)
+	wantRest(t, r, fallen, 2, 0, itemOf(1))
+	risen := []impl.Bundle{bundleOf(1, 2, 1), bundleOf(1, 0), bundleOf(2, 2)}
+	wantTogether(t, r, risen, 1, 1, 2)
+	wantTogether(t, r, risen, 2, 1, 2)
+	wantRest(t, r, risen, 1, 0, itemOf(1))
+	wantRest(t, r, risen, 2, 0, itemOf(1))
+	wantTogether(t, ringOf(1), fallen, 1, 1)
+	wantTogether(t, ringOf(1), risen, 1, 1)
+}
+
+// Without a bundle for the ring an Old is nothing, and not 0: nobody is told, not even id.
+func TestTogetherWithOfWhoHasNoBundle(t *testing.T) {
+	r := ringOf(1, 2, 3)
+	for _, list := range [][]impl.Bundle{
+		nil, {bundleOf(2, 0)}, {bundleOf(2, 0), bundleOf(3, 0)}, {bundleOf(2, 1), bundleOf(3, 1)},
+		{{From: 1, New: 3}, bundleOf(2, 0)}, {{From: 1, New: 5}, bundleOf(3, 2)}, {{From: 1, New: 5, Old: 2}, bundleOf(3, 2)},
+	} {
+		wantTogether(t, r, list, 1)
+		wantRest(t, r, list, 1, 0)
+		wantTogether(t, ringOf(1), list, 1)
+	}
+	// Who is no member of the ring is none of those told, also when it has a bundle for it.
+	wantTogether(t, ringOf(2, 3), []impl.Bundle{bundleOf(1, 0), bundleOf(2, 0), bundleOf(3, 1)}, 1)
+}
+
+// The Items beside an Old of 0 make a bundle that is not right: they are nothing to hear all the same.
+func TestRestOfWhoFell(t *testing.T) {
+	heards := append(fromTo(-2, 62), wildNumbers()...)
+	for _, items := range [][]impl.Item{nil, itemsOf(1), itemsOf(1, 2, 3), itemsOf(upTo(60)...)} {
+		own := impl.Bundle{From: 2, New: 4, Items: items}
+		for _, list := range [][]impl.Bundle{{own}, {own, bundleOf(2, 3, 1)}, {bundleOf(1, 3, 1, 2), own, bundleOf(3, 3, 3)}, {bundleOf(1, 0), own, bundleOf(3, 0)}, {bundleOf(1, 0, 1), own, bundleOf(3, 0, 1, 2)}} {
+			wantTogether(t, ringOf(1, 2, 3), list, 2, 2)
+			for _, heard := range heards {
+				wantRest(t, ringOf(2), list, 2, heard)
+				wantRest(t, ringOf(1, 2, 3), list, 2, heard)
+			}
+		}
+	}
+	list := []impl.Bundle{bundleOf(1, 0), bundleOf(2, 3, 1), bundleOf(3, 0)}
+	for id := range 5 {
+		if id != 2 {
+			wantRest(t, ringOf(1, 2, 3), list, id, 0)
+		}
+	}
+	wantRest(t, ringOf(1, 2, 3), list, 2, 0, itemOf(1))
 }
 
 func TestTogetherWithTakesTheFirst(t *testing.T) {
@@ -755,7 +823,7 @@ func TestTogetherWithTakesTheFirst(t *testing.T) {
 		{[]impl.Bundle{bundleOf(1, 3), bundleOf(1, 2), bundleOf(2, 2)}, []int{1}, []int{2}},
 		{[]impl.Bundle{bundleOf(2, 2), bundleOf(2, 3), bundleOf(1, 2)}, []int{1, 2}, []int{1, 2}},
 		{[]impl.Bundle{bundleOf(2, 3), bundleOf(2, 2), bundleOf(1, 2)}, []int{1}, []int{2}},
-		{[]impl.Bundle{bundleOf(1, 0), bundleOf(1, 2), bundleOf(2, 2)}, nil, []int{2}},
+		{[]impl.Bundle{bundleOf(1, 0), bundleOf(1, 2), bundleOf(2, 2)}, []int{1}, []int{2}},
 		{[]impl.Bundle{bundleOf(1, 2), bundleOf(1, 0), bundleOf(2, 2)}, []int{1, 2}, []int{1, 2}},
 		{[]impl.Bundle{bundleOf(1, 2), bundleOf(1, 2), bundleOf(2, 2), bundleOf(2, 2)}, []int{1, 2}, []int{1, 2}},
 		// One for another ring is not the first one for this one.
@@ -780,9 +848,11 @@ func TestTogetherWithOfWrongBundles(t *testing.T) {
 		wantTogether(t, r, []impl.Bundle{bundleOf(1, old), bundleOf(2, old)}, 1, 1, 2)
 		wantTogether(t, r, []impl.Bundle{bundleOf(1, old), bundleOf(2, 2)}, 1, 1)
 	}
+	// An Old below 0 is nothing in common either; but Rest is nothing of an Old of 0 alone.
 	for _, old := range []int{-1, -2, math.MinInt} {
-		wantTogether(t, r, []impl.Bundle{bundleOf(1, old), bundleOf(2, old)}, 1)
-		wantRest(t, r, []impl.Bundle{bundleOf(1, old, 1), bundleOf(2, old, 1)}, 1, 0)
+		wantTogether(t, r, []impl.Bundle{bundleOf(1, old), bundleOf(2, old)}, 1, 1)
+		wantRest(t, r, []impl.Bundle{bundleOf(1, old, 1), bundleOf(2, old, 1, 2)}, 1, 0, itemOf(1))
+		wantRest(t, r, []impl.Bundle{bundleOf(1, old, 1), bundleOf(2, old, 1, 2)}, 1, 1)
 	}
 	wantRest(t, r, []impl.Bundle{bundleOf(1, 0, 1), bundleOf(2, 0, 1)}, 1, 0)
 	wantRest(t, r, []impl.Bundle{twice, bundleOf(2, 2, 1)}, 1, 0, itemOf(1))
@@ -846,7 +916,7 @@ func TestTogetherWithOfEveryFewOlds(t *testing.T) {
 			}
 		})
 	})
-	if parted[0] < 100 || parted[1] < 100 || parted[2] < 100 || parted[3] < 10 {
+	if parted[0] < 20 || parted[1] < 100 || parted[2] < 100 || parted[3] < 10 {
 		t.Errorf("how many went on together, how often: %v", parted)
 	}
 }
