@@ -158,11 +158,11 @@ func hearIntoLogByHand(d impl.Daemon) impl.Daemon {
 
 func takeTokenByHand(d impl.Daemon, k impl.Token) (impl.Daemon, []impl.Item, impl.Token, bool) {
 	if !daemonRightByHand(d) || d.Mate.Ring.Id == 0 || d.Joining.Id != 0 {
-		return impl.Daemon{}, nil, impl.Token{}, false
+		return d, nil, impl.Token{}, false
 	}
 	m, said, next, ok := holdByHand(d.Mate, k)
 	if !ok {
-		return impl.Daemon{}, nil, impl.Token{}, false
+		return d, nil, impl.Token{}, false
 	}
 	d.Mate = m
 	return hearIntoLogByHand(d), said, next, true
@@ -291,9 +291,7 @@ func wantTokenTaken(t *testing.T, d impl.Daemon, k impl.Token, want impl.Daemon,
 		t.Errorf("TakeToken(%s, %+v):\n%s, %s, %+v, %t; want\n%s, %s, %+v, %t", shownDaemon(d), k,
 			shownDaemon(got), shownItems(said), next, ok, shownDaemon(want), shownItems(wantSaid), wantNext, wantOk)
 	}
-	if ok {
-		wantStaysRight(t, "TakeToken", d, got)
-	}
+	wantStaysRight(t, "TakeToken", d, got)
 	return got
 }
 
@@ -305,7 +303,7 @@ func wantTokenTakenAsByHand(t *testing.T, d impl.Daemon, k impl.Token) (impl.Dae
 
 func wantTokenNotTaken(t *testing.T, d impl.Daemon, k impl.Token) {
 	t.Helper()
-	wantTokenTaken(t, d, k, impl.Daemon{}, nil, impl.Token{}, false)
+	wantTokenTaken(t, d, k, d, nil, impl.Token{}, false)
 }
 
 func wantItemTaken(t *testing.T, d impl.Daemon, conf int, x impl.Item, want impl.Daemon) impl.Daemon {
@@ -1011,6 +1009,115 @@ func TestTakeTokenRefuses(t *testing.T) {
 	}
 }
 
+// nextTokenOf is one that a daemon would hold, if it takes part in a ring; of one that has none it is of the ring that it went to last.
+func nextTokenOf(d impl.Daemon) impl.Token {
+	conf := d.Mate.Ring.Id
+	if conf == 0 {
+		conf = max(d.Most, 1)
+	}
+	return impl.Token{Conf: conf, Round: d.Mate.Round + 1, Seq: 5, Aru: 4, By: 2, Wants: []int{2, 5}}
+}
+
+// tokensRefusedBy are tokens that a right daemon does not hold, for each reason that it has.
+func tokensRefusedBy(d impl.Daemon) map[string][]impl.Token {
+	next := nextTokenOf(d)
+	with := func(change func(k *impl.Token)) impl.Token {
+		k := next
+		change(&k)
+		return k
+	}
+	refused := map[string][]impl.Token{
+		"not right": {{}, {Conf: next.Conf}, with(func(k *impl.Token) { k.Round = -1 }), with(func(k *impl.Token) { k.Seq = 61 }), with(func(k *impl.Token) { k.Aru = 6 }),
+			with(func(k *impl.Token) { k.By = 6 }), with(func(k *impl.Token) { k.Wants = []int{5, 2} }), with(func(k *impl.Token) { k.Round = 1000000001 })},
+		"not below MaxNumber": {with(func(k *impl.Token) { k.Round = 1000000000 })},
+	}
+	for conf := 1; conf <= 9; conf++ {
+		if conf != next.Conf {
+			refused["of another ring"] = append(refused["of another ring"], with(func(k *impl.Token) { k.Conf = conf }))
+		}
+	}
+	for _, round := range []int{1, d.Mate.Round - 1, d.Mate.Round} {
+		if round > 0 && round <= d.Mate.Round {
+			refused["held already"] = append(refused["held already"], with(func(k *impl.Token) { k.Round = round }), impl.Token{Conf: next.Conf, Round: round})
+		}
+	}
+	switch late := []impl.Token{next, {Conf: next.Conf, Round: 1}, with(func(k *impl.Token) { k.Round = 999999999 })}; {
+	case d.Dead:
+		refused["Dead"] = late
+	case d.Joining.Id != 0:
+		refused["on its way"] = append(late, with(func(k *impl.Token) { k.Conf = d.Joining.Id }))
+	case d.Mate.Ring.Id == 0:
+		refused["without a ring"] = late
+	}
+	return refused
+}
+
+// wantRefusalChangesNothing is promise 14 of tokens that are refused; it tells for which reasons some were, into seen.
+func wantRefusalChangesNothing(t *testing.T, d impl.Daemon, seen map[string]int) {
+	t.Helper()
+	k := &keeper{}
+	arg := kept(k, d)
+	k.ready()
+	for reason, tokens := range tokensRefusedBy(d) {
+		seen[reason] += len(tokens)
+		for _, token := range tokens {
+			after, said, next, ok := impl.TakeToken(arg, token)
+			if ok || len(said) != 0 || !sameToken(next, impl.Token{}) {
+				t.Errorf("TakeToken(%s, %+v), %s: %s, %+v, %t; want nothing and false", shownDaemon(d), token, reason, shownItems(said), next, ok)
+			}
+			if !sameDaemon(after, d) || !impl.DaemonOk(after) {
+				t.Errorf("TakeToken(%s, %+v), %s: the daemon is not as it was: %s", shownDaemon(d), token, reason, shownDaemon(after))
+			}
+		}
+	}
+	after, said, next, _ := impl.TakeToken(arg, impl.Token{Conf: 9, Round: 1000000000})
+	again, _, _, _ := impl.TakeToken(arg, impl.Token{})
+	k.untouched(t, "TakeToken of a token that is refused", after, said, next, again)
+}
+
+func TestTokenThatIsRefusedKnown(t *testing.T) {
+	fresh, _ := impl.DaemonNew(1)
+	wantTokenNotTaken(t, fresh, impl.Token{Conf: 1, Round: 1})
+	in, _, _ := impl.Move(fresh, impl.Ring{Id: 1, Members: []int{1}})
+	wantTokenNotTaken(t, in, impl.Token{Conf: 2, Round: 1})
+	wantTokenNotTaken(t, in, impl.Token{Conf: 1, Round: 1, Seq: -1})
+	wantTokenNotTaken(t, in, impl.Token{Conf: 1, Round: 1000000000})
+	held, _, next, ok := impl.TakeToken(in, impl.Token{Conf: 1, Round: 1})
+	if !ok || next.Round != 2 {
+		t.Errorf("the first token: %s, %+v, %t", shownDaemon(held), next, ok)
+	}
+	wantTokenNotTaken(t, held, impl.Token{Conf: 1, Round: 1})
+	on, _, _ := impl.Move(held, impl.Ring{Id: 2, Members: []int{1, 2}})
+	wantTokenNotTaken(t, on, next)
+	wantTokenNotTaken(t, on, impl.Token{Conf: 2, Round: 1})
+	fallen := impl.Crash(on)
+	wantTokenNotTaken(t, fallen, next)
+	woken, _ := impl.Wake(fallen)
+	wantTokenNotTaken(t, woken, next)
+	wantDaemonOk(t, woken, true)
+}
+
+// A token that is refused leaves a daemon as it is, whatever daemon it comes to and for whatever reason.
+func TestTokenThatIsRefusedChangesNothing(t *testing.T) {
+	seen := map[string]int{}
+	for _, d := range append(someDaemons(), oddDaemons()...) {
+		wantRefusalChangesNothing(t, d, seen)
+		takesPart := d.Mate.Ring.Id != 0 && d.Joining.Id == 0
+		if _, _, _, ok := wantTokenTakenAsByHand(t, d, nextTokenOf(d)); ok != (takesPart && d.Mate.Round < 999999999) {
+			t.Errorf("TakeToken(%s, %+v): %t", shownDaemon(d), nextTokenOf(d), ok)
+		}
+	}
+	for _, r := range rightRings() {
+		for _, id := range r.Members {
+			d := daemonIn(id, r)
+			wantRefusalChangesNothing(t, d, seen)
+			d, _, _, _ = wantTokenTakenAsByHand(t, d, nextTokenOf(d))
+			wantRefusalChangesNothing(t, d, seen)
+		}
+	}
+	enough(t, seen, 3, "not right", "not below MaxNumber", "of another ring", "held already", "Dead", "on its way", "without a ring")
+}
+
 func TestTakeTokenIsHoldAndHear(t *testing.T) {
 	taken := 0
 	for _, m := range matesToLookAt() {
@@ -1237,8 +1344,8 @@ func daemonCalls() []func(t *testing.T, d impl.Daemon) impl.Daemon {
 	}
 	token := func(k impl.Token) func(t *testing.T, d impl.Daemon) impl.Daemon {
 		return func(t *testing.T, d impl.Daemon) impl.Daemon {
-			after, _, _, ok := wantTokenTakenAsByHand(t, d, k)
-			return orAsItWas(d, after, ok)
+			after, _, _, _ := wantTokenTakenAsByHand(t, d, k)
+			return after
 		}
 	}
 	return []func(t *testing.T, d impl.Daemon) impl.Daemon{
@@ -1265,10 +1372,11 @@ func daemonCalls() []func(t *testing.T, d impl.Daemon) impl.Daemon {
 // A call that changes nothing is passed over: what follows it follows the daemon as it was, too.
 func TestDaemonsOfEveryFewCalls(t *testing.T) {
 	calls := daemonCalls()
-	rings := map[int]int{}
+	rings, refused := map[int]int{}, map[string]int{}
 	var goOn func(d impl.Daemon, left int)
 	goOn = func(d impl.Daemon, left int) {
 		rings[d.Old]++
+		wantRefusalChangesNothing(t, d, refused)
 		if left == 0 || t.Failed() {
 			return
 		}
@@ -1285,6 +1393,7 @@ func TestDaemonsOfEveryFewCalls(t *testing.T) {
 	if rings[1] < 3000 || rings[2] < 3000 || rings[3] < 3000 {
 		t.Errorf("in which rings it came to be, how often: %v", rings)
 	}
+	enough(t, refused, 1000, "not right", "not below MaxNumber", "of another ring", "held already", "Dead", "on its way", "without a ring")
 }
 
 // sentTo is what is on its way to a daemon: one of the three.
@@ -1346,12 +1455,12 @@ func (w *daemonLife) takeToken(t *testing.T, id int, k impl.Token) {
 	t.Helper()
 	d := w.daemons[id]
 	after, said, next, ok := wantTokenTakenAsByHand(t, d, k)
+	w.daemons[id] = after
 	if !ok {
 		w.seen["token refused"]++
 		return
 	}
 	w.seen["token"]++
-	w.daemons[id] = after
 	w.tell(d.Mate.Ring, id, said)
 	w.way = append(w.way, sentTo{to: impl.NextOf(d.Mate.Ring, id), conf: k.Conf, token: next})
 	for _, x := range said {
@@ -1530,6 +1639,13 @@ func (w *daemonLife) hold(t *testing.T) {
 	}
 }
 
+func (w *daemonLife) refuse(t *testing.T) {
+	t.Helper()
+	for _, id := range upTo(5) {
+		wantRefusalChangesNothing(t, w.daemons[id], w.seen)
+	}
+}
+
 func enough(t *testing.T, seen map[string]int, least int, what ...string) {
 	t.Helper()
 	for _, thing := range what {
@@ -1562,9 +1678,11 @@ func TestDaemonsStayRightWhateverComes(t *testing.T) {
 				w.hold(t)
 			}
 		}
+		w.refuse(t)
 		addTo(seen, w.seen)
 	}
 	enough(t, seen, 200, "token", "token refused", "item", "bundle true", "bundle false", "installed", "move", "move on the way", "first", "crash", "wake")
+	enough(t, seen, 50, "not right", "not below MaxNumber", "of another ring", "held already", "Dead", "on its way", "without a ring")
 }
 
 // heardIn are the items of a ring, in order, and whether there is an IsPart of it, and with whom.
@@ -1635,6 +1753,7 @@ func TestDaemonsInDrawnLives(t *testing.T) {
 			}
 		}
 		w.hold(t)
+		w.refuse(t)
 		w.wantOneOrderOfLogs(t)
 		addTo(seen, w.seen)
 	}
@@ -1777,9 +1896,13 @@ func TestDaemonsPartOneListInMany(t *testing.T) {
 	for _, d := range []impl.Daemon{in, on, {Id: 1, Dead: true, Most: 3, Log: log}} {
 		refused, _ := impl.TakeBundle(d, impl.Bundle{})
 		k.untouched(t, "TakeBundle of nothing", refused)
+		asItWas, said, next, _ := impl.TakeToken(d, impl.Token{Conf: 3, Round: 1, Seq: 2, Wants: one})
+		k.untouched(t, "TakeToken of another ring", asItWas, said, next)
+		late, _, _, _ := impl.TakeToken(d, impl.Token{})
+		k.untouched(t, "TakeToken of nothing", late)
 		k.untouched(t, "TakeItem", impl.TakeItem(d, 2, items[1]), impl.TakeItem(d, 9, items[1]))
-		said, _ := impl.SayDaemon(d, 1, texts[0])
-		k.untouched(t, "SayDaemon", said)
+		spoken, _ := impl.SayDaemon(d, 1, texts[0])
+		k.untouched(t, "SayDaemon", spoken)
 		k.untouched(t, "Crash", impl.Crash(d))
 		woken, _ := impl.Wake(d)
 		k.untouched(t, "Wake", woken)
