@@ -190,7 +190,7 @@ func foldByHand(t impl.Table, w impl.Word) (impl.Table, []string, bool) {
 		hearers = append(whoOf(behind, func(b belonging) bool { return b.group == w.Groups[0] }), w.Who)
 	case 3:
 		behind = slices.DeleteFunc(behind, func(b belonging) bool { return b.who == w.Who })
-		hearers = whoOf(behind, func(b belonging) bool { return slices.Contains(before, belonging{b.group, w.Who}) })
+		hearers = whoOf(before, func(b belonging) bool { return slices.Contains(before, belonging{b.group, w.Who}) })
 	case 4:
 		hearers = whoOf(before, func(b belonging) bool { return slices.Contains(w.Groups, b.group) && b.who != w.Who })
 	}
@@ -312,13 +312,57 @@ func wantMembers(t *testing.T, x impl.Table, group string, want ...string) {
 	}
 }
 
+// wantFold asks of whatever table and whatever Who it comes to that a WordGone is heard, too.
 func wantFold(t *testing.T, x impl.Table, w impl.Word, want impl.Table, wantOk bool, wantHearers ...string) impl.Table {
 	t.Helper()
 	got, hearers, ok := impl.Fold(x, w)
 	if !sameTable(got, want) || !slices.Equal(hearers, wantHearers) || ok != wantOk {
 		t.Errorf("Fold(%s, %s): %s, %q, %t; want %s, %q, %t", shownTable(x), shownWord(w), shownTable(got), hearers, ok, shownTable(want), wantHearers, wantOk)
 	}
+	wantGoneHeard(t, x, w.Who)
 	return got
+}
+
+// whoShares are the Members of all groups that who is in, and the table that is left without who; in no other way than group by group.
+func whoShares(x impl.Table, who string) ([]string, impl.Table) {
+	var shares []string
+	var left impl.Table
+	for _, g := range x.Groups {
+		place := slices.Index(g.Members, who)
+		if place < 0 {
+			left.Groups = append(left.Groups, g)
+			continue
+		}
+		shares = append(shares, g.Members...)
+		if len(g.Members) > 1 {
+			left.Groups = append(left.Groups, groupOf(g.Name, without(g.Members, place)...))
+		}
+	}
+	slices.Sort(shares)
+	return slices.Compact(shares), left
+}
+
+// wantGoneHeard: those who share a group with who is gone are to hear of it, and itself just when it is in one.
+func wantGoneHeard(t *testing.T, x impl.Table, who string) {
+	t.Helper()
+	w := goneWord(who)
+	next, hearers, ok := impl.Fold(x, w)
+	all := impl.FoldAll(x, []impl.Word{w})
+	right := tableRightByHand(x) && wordRightByHand(w)
+	shares, left := []string{}, x
+	if right {
+		shares, left = whoShares(x, who)
+	}
+	if !slices.Equal(hearers, shares) || ok != right {
+		t.Errorf("of %.40q, gone from %s, are to hear: %q, %t; want %q, %t", who, shownTable(x), hearers, ok, shares, right)
+	}
+	in := right && slices.ContainsFunc(x.Groups, func(g impl.Group) bool { return slices.Contains(g.Members, who) })
+	if slices.Contains(hearers, who) != in || !ascendsByHand(hearers) {
+		t.Errorf("of %.40q, gone from %s, are to hear: %q; itself among them just when it is in a group", who, shownTable(x), hearers)
+	}
+	if !sameTable(next, left) || !sameTable(all, left) {
+		t.Errorf("%.40q gone from %s: Fold %s, FoldAll %s; want %s", who, shownTable(x), shownTable(next), shownTable(all), shownTable(left))
+	}
 }
 
 func wantFoldAsByHand(t *testing.T, x impl.Table, w impl.Word) (impl.Table, bool) {
@@ -949,15 +993,18 @@ func TestFoldLeaveKnown(t *testing.T) {
 	}
 }
 
-// Who is gone is in no group any more, and hears nothing of it; those who stay where it was do.
+// Who is gone is in no group any more, and is to hear of it with all who were in a group with it.
 func TestFoldGoneKnown(t *testing.T) {
 	x := tableOf(groupOf("a", "#1#b"), groupOf("b", "#1#a", "#1#b", "#2#a"), groupOf("c", "#2#a", "#3#c"), groupOf("d", "#1#a", "#1#b"))
-	wantFold(t, x, goneWord("#1#b"), tableOf(groupOf("b", "#1#a", "#2#a"), groupOf("c", "#2#a", "#3#c"), groupOf("d", "#1#a")), true, "#1#a", "#2#a")
-	wantFold(t, x, goneWord("#1#a"), tableOf(groupOf("a", "#1#b"), groupOf("b", "#1#b", "#2#a"), groupOf("c", "#2#a", "#3#c"), groupOf("d", "#1#b")), true, "#1#b", "#2#a")
-	wantFold(t, x, goneWord("#3#c"), tableOf(groupOf("a", "#1#b"), groupOf("b", "#1#a", "#1#b", "#2#a"), groupOf("c", "#2#a"), groupOf("d", "#1#a", "#1#b")), true, "#2#a")
-	wantFold(t, x, goneWord("#2#a"), tableOf(groupOf("a", "#1#b"), groupOf("b", "#1#a", "#1#b"), groupOf("c", "#3#c"), groupOf("d", "#1#a", "#1#b")), true, "#1#a", "#1#b", "#3#c")
-	wantFold(t, tableOf(groupOf("a", "#1#b"), groupOf("b", "#1#b")), goneWord("#1#b"), impl.Table{}, true)
-	wantFold(t, tableOf(groupOf("a", "#1#b"), groupOf("b", "#2#b")), goneWord("#1#b"), tableOf(groupOf("b", "#2#b")), true)
+	wantFold(t, x, goneWord("#1#b"), tableOf(groupOf("b", "#1#a", "#2#a"), groupOf("c", "#2#a", "#3#c"), groupOf("d", "#1#a")), true, "#1#a", "#1#b", "#2#a")
+	wantFold(t, x, goneWord("#1#a"), tableOf(groupOf("a", "#1#b"), groupOf("b", "#1#b", "#2#a"), groupOf("c", "#2#a", "#3#c"), groupOf("d", "#1#b")), true, "#1#a", "#1#b", "#2#a")
+	wantFold(t, x, goneWord("#3#c"), tableOf(groupOf("a", "#1#b"), groupOf("b", "#1#a", "#1#b", "#2#a"), groupOf("c", "#2#a"), groupOf("d", "#1#a", "#1#b")), true, "#2#a", "#3#c")
+	wantFold(t, x, goneWord("#2#a"), tableOf(groupOf("a", "#1#b"), groupOf("b", "#1#a", "#1#b"), groupOf("c", "#3#c"), groupOf("d", "#1#a", "#1#b")), true, "#1#a", "#1#b", "#2#a", "#3#c")
+	wantFold(t, tableOf(groupOf("a", "#1#b")), goneWord("#1#b"), impl.Table{}, true, "#1#b")
+	wantFold(t, tableOf(groupOf("a", "#1#b"), groupOf("b", "#1#b")), goneWord("#1#b"), impl.Table{}, true, "#1#b")
+	wantFold(t, tableOf(groupOf("a", "#1#b"), groupOf("b", "#2#b")), goneWord("#1#b"), tableOf(groupOf("b", "#2#b")), true, "#1#b")
+	wantFold(t, tableOf(groupOf("a", "#1#a", "#2#b")), goneWord("#1#a"), tableOf(groupOf("a", "#2#b")), true, "#1#a", "#2#b")
+	wantFold(t, tableOf(groupOf("a", "#1#a", "#2#b")), goneWord("#2#b"), tableOf(groupOf("a", "#1#a")), true, "#1#a", "#2#b")
 	for _, who := range []string{"#1#c", "#2#b", "#9#z", "#1#bb"} {
 		wantFold(t, x, goneWord(who), x, true)
 		wantFold(t, impl.Table{}, goneWord(who), impl.Table{}, true)
@@ -968,7 +1015,7 @@ func TestFoldGoneKnown(t *testing.T) {
 		for _, g := range fullTable().Groups {
 			left.Groups = append(left.Groups, groupOf(g.Name, without(g.Members, place)...))
 		}
-		wantFold(t, fullTable(), goneWord(who), left, true, without(people(8), place)...)
+		wantFold(t, fullTable(), goneWord(who), left, true, people(8)...)
 	}
 }
 
@@ -1108,7 +1155,7 @@ func whatCame(x impl.Table, w impl.Word) []string {
 			what = append(what, "the last one leaves")
 		}
 	case 3:
-		what = append(what, fmt.Sprintf("gone of %d", min(in, 3)))
+		what = append(what, fmt.Sprintf("gone of %d", min(in, 3)), fmt.Sprintf("gone, heard by %d", min(len(hearers), 2)))
 		if len(next.Groups) < len(x.Groups) {
 			what = append(what, "groups are gone")
 		}
@@ -1147,7 +1194,7 @@ func TestTablesAreTheFoldOfTheirWords(t *testing.T) {
 		}
 	}
 	enough(t, seen, 300, "kind 1 true", "kind 1 false", "kind 2 true", "kind 2 false", "kind 3 true", "kind 4 true", "a member joins", "a new group", "a wrong word", "said to 0", "said to 1", "said to 2")
-	enough(t, seen, 50, "the ninth member", "the seventh group", "the last one leaves", "gone of 0", "gone of 1", "gone of 2", "gone of 3", "groups are gone")
+	enough(t, seen, 50, "the ninth member", "the seventh group", "the last one leaves", "gone of 0", "gone of 1", "gone of 2", "gone of 3", "gone, heard by 0", "gone, heard by 1", "gone, heard by 2", "groups are gone")
 }
 
 // A table is behind the words with which each of its members joined, in whatever order.
@@ -1167,7 +1214,11 @@ func TestTablesAreWhoJoined(t *testing.T) {
 		}
 		wantFoldAll(t, impl.Table{}, words, impl.Table{})
 		for _, who := range fewPeople() {
+			next, _ := wantFoldAsByHand(t, x, goneWord(who))
 			x = impl.FoldAll(x, []impl.Word{goneWord(who)})
+			if !sameTable(x, next) {
+				t.Errorf("%s is gone: FoldAll %s, Fold %s", who, shownTable(x), shownTable(next))
+			}
 			if whos := whoOf(belongingsOf(x), func(b belonging) bool { return b.who == who }); len(whos) > 0 {
 				t.Errorf("%s is gone, and in %s", who, shownTable(x))
 			}
@@ -1464,7 +1515,7 @@ func TestGroupsOfLongArguments(t *testing.T) {
 func TestGroupsAnswerAlike(t *testing.T) {
 	full := fullTable()
 	for range 40 {
-		wantFold(t, full, goneWord("#1#a"), impl.Keep(tableOfBelongings(slices.DeleteFunc(belongingsOf(full), func(b belonging) bool { return b.who == "#1#a" })), fromTo(1, 9)), true, people(8)[1:]...)
+		wantFold(t, full, goneWord("#1#a"), impl.Keep(tableOfBelongings(slices.DeleteFunc(belongingsOf(full), func(b belonging) bool { return b.who == "#1#a" })), fromTo(1, 9)), true, people(8)...)
 		wantFold(t, full, sayWord("#9#z", "hi", "b", "f", "l"), full, true, people(8)...)
 		wantMerge(t, tableOf(full.Groups[3:]...), tableOf(full.Groups[:3]...), full)
 		wantKeep(t, full, []int{3, 2, 1}, full)
@@ -1579,7 +1630,7 @@ func TestGroupsKeepNothing(t *testing.T) {
 	x := tableOf(groupOf("a", "#1#a"), groupOf("b", "#1#a", "#2#b"))
 	first, _ := impl.ReadWord(wordByHand(fewWords()[4]))
 	for range 3 {
-		wantFold(t, x, goneWord("#1#a"), tableOf(groupOf("b", "#2#b")), true, "#2#b")
+		wantFold(t, x, goneWord("#1#a"), tableOf(groupOf("b", "#2#b")), true, "#1#a", "#2#b")
 		wantNotFolded(t, x, joinWord("#1#a", "a"))
 		wantFold(t, x, joinWord("#9#z", "c"), tableOf(groupOf("a", "#1#a"), groupOf("b", "#1#a", "#2#b"), groupOf("c", "#9#z")), true, "#9#z")
 		wantNotFolded(t, x, leaveWord("#9#z", "c"))
